@@ -1,0 +1,1 @@
+"""PALLETHALL, layer j: charging cars while they stand in the park."""

@@ -11,8 +11,9 @@ def all_sets(cars):
     return sets
 
 
-def members(number, count):
-    return [car for car in range(count) if (number >> car) & 1 == 1]
+def counted_members(number, count):
+    cars = [car for car in range(count) if (number >> car) & 1 == 1]
+    return [len(cars)] + cars
 
 
 def wants(chosen):
@@ -42,6 +43,10 @@ def excesses(cars, supplies):
 
 def worst_excess(cars, supplies):
     return max(excesses(cars, supplies))
+
+
+def all_filled(cars, supplies):
+    return worst_excess(cars, supplies) == 0
 
 
 # The first place of the worst excess is the least number of such a set.

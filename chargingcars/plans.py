@@ -38,3 +38,28 @@ def told_plan(day, loads):
 
 def cost_of(loads, prices):
     return sum([load * price for load, price in zip(loads, prices)])
+
+
+def least_cost(day):
+    return cost_of(told_loads(day), day.prices)
+
+
+def cost_and_plan(day):
+    loads = told_loads(day)
+    return [cost_of(loads, day.prices)] + told_plan(day, loads)
+
+
+def rows_of(plan, day):
+    slots = len(day.supplies)
+    return [plan[number * slots:(number + 1) * slots] for number in range(len(day.cars))]
+
+
+def loads_of(rows, slots):
+    return [sum([row[slot] for row in rows]) for slot in range(slots)]
+
+
+def taken_and_left(day, slot):
+    told = []
+    for row in rows_of(told_plan(day, told_loads(day)), day):
+        told.extend([row[slot], sum(row[slot + 1:])])
+    return told

@@ -1,8 +1,11 @@
-"""The calls that tell of the day. Each gives back what it answers and changes nothing."""
+"""The calls that tell of the day, whether all can be filled or not. They change nothing."""
 
-from chargingcars.carsets import members, room, wants, worst_excess, worst_set
-from chargingcars.plans import cost_of, told_loads, told_plan
-from chargingcars.refusals import NO_SUCH, NOT_FILLED, OUT_OF_BOUNDS
+from chargingcars.carsets import all_sets, counted_members, room, wants, worst_excess, worst_set
+from chargingcars.judging import wrong_of
+from chargingcars.margins import refused_set
+from chargingcars.plans import cost_of, loads_of, rows_of
+from chargingcars.proofs import prices_but_least, proven_cost
+from chargingcars.refusals import NO_SUCH, OUT_OF_BOUNDS
 from chargingcars.texts import text_of
 
 
@@ -14,8 +17,7 @@ def tell_can(day):
     excess = worst_excess(day.cars, day.supplies)
     if excess == 0:
         return [0, 1]
-    cars = members(worst_set(day.cars, day.supplies), len(day.cars))
-    return [0, 0, excess, len(cars)] + cars
+    return [0, 0, excess] + counted_members(worst_set(day.cars, day.supplies), len(day.cars))
 
 
 def tell_asks(day, row):
@@ -32,8 +34,25 @@ def tell_most(day):
     return [0, wants(day.cars) - worst_excess(day.cars, day.supplies)]
 
 
-def tell_plan(day):
-    if worst_excess(day.cars, day.supplies) > 0:
-        return [NOT_FILLED]
-    loads = told_loads(day)
-    return [0, cost_of(loads, day.prices)] + told_plan(day, loads)
+def tell_proves(day, row):
+    sets = all_sets(day.cars)
+    if len(row) != len(prices_but_least(day.prices)):
+        return [OUT_OF_BOUNDS]
+    if any([number >= len(sets) for number in row]):
+        return [OUT_OF_BOUNDS]
+    return [0, proven_cost(day, [sets[number] for number in row])]
+
+
+def tell_judge(day, row):
+    slots = len(day.supplies)
+    if len(row) != slots * len(day.cars):
+        return [OUT_OF_BOUNDS]
+    rows = rows_of(row, day)
+    wrong = wrong_of(rows, day)
+    if len(wrong) > 0:
+        return [0, 1] + wrong
+    return [0, 0, cost_of(loads_of(rows, slots), day.prices)]
+
+
+def tell_refuse(day):
+    return [0] + counted_members(refused_set(day), len(day.cars))

@@ -101,6 +101,10 @@ def most_of_day(supplies, cars):
     return most_charged([one[2] for one in cars], caps_of(cars, len(supplies)), supplies)
 
 
+def day_fills(supplies, cars):
+    return min(supplies) >= 0 and most_of_day(supplies, cars) == sum(one[2] for one in cars)
+
+
 def fills(needs, caps, supplies):
     return min(supplies, default=0) >= 0 and min(needs, default=0) >= 0 \
         and most_charged(needs, caps, supplies) == sum(needs)
@@ -223,3 +227,60 @@ def worst(supplies, cars):
     by = [set_excess(supplies, cars, number) for number in range(2 ** len(cars))]
     number = by.index(max(by))
     return max(by), [k for k in range(len(cars)) if number >> k & 1]
+
+
+def cheaper(supplies, prices, q):
+    """The supplies with nothing in the slots that cost q or more."""
+    return [there if cost < q else 0 for there, cost in zip(supplies, prices)]
+
+
+def proof_of(supplies, prices, cars):
+    """What proof answers, but that how much is found by a flow."""
+    dearer = sorted(q for q in set(prices) if q > min(prices))
+    told = [0, len(dearer)]
+    for q in dearer:
+        there = cheaper(supplies, prices, q)
+        by = [set_excess(there, cars, number) for number in range(2 ** len(cars))]
+        amount = sum(one[2] for one in cars) - most_of_day(there, cars)
+        number = by.index(amount)
+        assert max(by) == amount
+        chosen = [k for k in range(len(cars)) if number >> k & 1]
+        told += [q, amount, len(chosen)] + chosen
+    return told
+
+
+def proven_by(supplies, prices, cars, sets):
+    rising = sorted(set(prices))
+    total = rising[0] * sum(one[2] for one in cars)
+    for place, number in enumerate(sets):
+        q = rising[place + 1]
+        total += (q - rising[place]) * set_excess(cheaper(supplies, prices, q), cars, number)
+    return total
+
+
+def refused_of(supplies, cars):
+    """The set that refuse tells, each tried by a flow."""
+    found = []
+    for number in range(2 ** len(cars)):
+        away = [k for k in range(len(cars)) if number >> k & 1]
+        if day_fills(supplies, [one for k, one in enumerate(cars) if k not in away]):
+            found.append((len(away), sum(cars[k][2] for k in away), number, away))
+    return min(found)[3]
+
+
+def put(things, place, thing):
+    return things[:place] + [thing] + things[place + 1:]
+
+
+def with_supply(supplies, slot, change):
+    return put(supplies, slot, supplies[slot] + change)
+
+
+def with_need(cars, number, change):
+    a, b, n, r = cars[number]
+    return put(cars, number, (a, b, n + change, r))
+
+
+def with_coming(cars, number, change):
+    a, b, n, r = cars[number]
+    return put(cars, number, (a + change, b, n, r))

@@ -1,11 +1,15 @@
 """What the tests share: calls as lists of numbers, answers cut apart, and small days."""
 
 from chargingcars.parks import answers
+from tests import oracle
 
 TEXT = [5]
 CAN = [6]
 MOST = [8]
 PLAN = [9]
+LOADS = [10]
+PROOF = [11]
+REFUSE = [14]
 
 
 def load(text):
@@ -34,6 +38,34 @@ def price(slot, units):
 
 def asks(*cars):
     return [7, len(cars)] + list(cars)
+
+
+def proves(*sets):
+    return [12, len(sets)] + list(sets)
+
+
+def judge(*row):
+    return [13, len(row)] + list(row)
+
+
+def spare(slot):
+    return [15, slot]
+
+
+def gain(slot):
+    return [16, slot]
+
+
+def more(number):
+    return [17, number]
+
+
+def late(number):
+    return [18, number]
+
+
+def now(slot):
+    return [19, slot]
 
 
 def ask(*calls):
@@ -69,6 +101,11 @@ def day_text(supplies, prices, cars, name="mon"):
     return "".join(line + "\n" for line in lines)
 
 
+def ask_day(day, *calls):
+    """What the calls answer on a day of (supplies, prices, cars)."""
+    return ask(load(day_text(*day)), *calls)[1:]
+
+
 def text_answer(text):
     return [0] + list(text.encode("latin-1"))
 
@@ -102,9 +139,26 @@ def drawn_day(draws, slots, cars, most_supply, most_need, most_rate, prices):
     return supplies, costs, drawn
 
 
+def filled_days(seed, count):
+    """Days on which all can be filled."""
+    draws = Draws(seed)
+    found = []
+    while len(found) < count:
+        day = drawn_day(draws, draws.between(1, 12), draws.between(1, 6), 30, 25, 15, [0, 1, 7, 7, 30, 31, 999])
+        if oracle.day_fills(day[0], day[2]):
+            found.append(day)
+    return found
+
+
 def greatest_day():
     """12 slots, 6 cars; all can be filled, but not by much."""
     supplies = [20, 60, 7, 33, 60, 41, 18, 60, 25, 60, 39, 60]
     prices = [500, 999, 3, 500, 0, 720, 720, 3, 999, 500, 41, 720]
     cars = [(0, 12, 99, 20), (0, 9, 70, 10), (3, 12, 77, 19), (2, 7, 60, 20), (5, 12, 66, 11), (0, 12, 71, 9)]
     return supplies, prices, cars
+
+
+def unfilled_day():
+    """12 slots, 6 cars; not all can be filled, not even without three of them: there are 54 units."""
+    supplies = [9, 3, 0, 7, 4, 1, 8, 2, 6, 5, 0, 9]
+    return supplies, list(range(12)), [(0, 12, need, 20) for need in (30, 28, 26, 24, 22, 20)]
